@@ -1,0 +1,1 @@
+"""Threelanes: every web drawn flat, in three lanes over a tree-like web and a line."""

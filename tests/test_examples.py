@@ -7,7 +7,7 @@ import unittest
 from tests.tools import shown
 from threelanes.errors import LaneError
 
-SECTIONS = ("checks", "papers", "webs")
+SECTIONS = ("checks", "papers", "webs", "faces", "check_webs", "fills", "makes", "layers")
 FOLDER = pathlib.Path(__file__).parent / "examples"
 
 

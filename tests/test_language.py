@@ -32,6 +32,29 @@ INTERFACE = {
         "mirrored": "web",
         "renamed": "web names",
     },
+    "faces": {
+        "faces_of": "web",
+        "face_at": "web one other",
+        "Flat": "places ties faces",
+        "Apart": "places",
+        "Handles": "count",
+        "judged_flat": "web",
+    },
+    "check_webs": {"shows_flat": "web value"},
+    "fills": {"is_filled": "web", "filled": "web"},
+    "makes": {
+        "ring": "many",
+        "floor": "wide tall",
+        "wheel": "many",
+        "put_in": "web face",
+        "flipped": "web one other",
+    },
+    "layers": {
+        "layers_of": "web outer",
+        "uppers_of": "web outer",
+        "leg_of": "web outer place",
+        "leg_colours": "web outer known",
+    },
 }
 
 

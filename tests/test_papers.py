@@ -71,6 +71,11 @@ class Papers(unittest.TestCase):
         self.assertIs(Paper("note", 1) == Note(1), False)
         self.assertIs(Denial("note", 1) == Note(1), False)
 
+    def test_equality_with_a_class_of_the_same_name(self):
+        kept = {"__init__": lambda self: None, "word": "note", "parts": (1,)}
+        for made in (Paper("note", 1), Denial("note", 1)):
+            self.assertIs(made == type(type(made).__name__, (), kept)(), False)
+
     def test_equality_with_other_values(self):
         for value in ANYTHING + [("note", (1,)), "note"]:
             self.assertIs(Paper("note", 1) == value, False)

@@ -86,6 +86,18 @@ def triangulated(rng, many, flips=0):
     return turns
 
 
+def nested(many, step=1):
+    """The turns of a filled web in which each place is put in beside the last one, so that it gets deep."""
+    turns = [[2, 3], [3, 1], [1, 2]]
+    face = (1, 2, 3)
+    for new in range(4, many + 1):
+        for at in range(3):
+            put_behind(turns[face[at] - 1], face[at - 1], new)
+        turns.append([face[2], face[1], face[0]])
+        face = (face[step], face[(step + 1) % 3], new)
+    return turns
+
+
 def all_tied(many):
     """The turns of a web in which each place is tied to all others."""
     return [[other for other in range(1, many + 1) if other != place] for place in range(1, many + 1)]
@@ -102,3 +114,7 @@ FOUR = Web([[2, 3, 4], [3, 1, 4], [1, 2, 4], [3, 2, 1]])
 PATH = Web([[2], [1, 3], [2]])
 KNOT = Web([[2, 3, 4], [1, 3, 4], [1, 2, 4], [1, 2, 3]])
 SPLIT = Web([[2], [1], [4], [3]])
+# Webs that are not filled though they have faces of three places.
+TAIL = Web([[2, 3], [3, 1], [1, 4, 2], [3]])
+LONE = Web([[2, 3], [3, 1], [1, 2], []])
+HANDLE = Web([[(place + step - 1) % 7 + 1 for step in (1, 3, 2, 6, 4, 5)] for place in range(1, 8)])

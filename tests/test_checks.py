@@ -3,7 +3,7 @@
 import unittest
 
 from tests.tools import ANYTHING, LISTS, NUMBERS, ODD, STRINGS
-from threelanes.checks import is_integer, is_lot, is_within
+from threelanes.checks import are_unlike, is_integer, is_just, is_lot, is_row, is_within
 
 
 class Checks(unittest.TestCase):
@@ -52,6 +52,25 @@ class Checks(unittest.TestCase):
             self.assertIs(is_lot(value), False, value)
         for value in ANYTHING:
             self.assertIs(is_lot([value, value]), False, value)
+
+    def test_rows(self):
+        for value in ([], (), [0], (0, 0), [3, 0, 10**50]):
+            self.assertIs(is_row(value, 0, None), True)
+        self.assertEqual([is_row([1, 3], 1, 3), is_row([1, 3], 2, 3), is_row((1, 3), 1, 2)], [True, False, False])
+        self.assertEqual([are_unlike(value, 0) for value in ([], (0, 1), [1, 0], [1, 1], [-1])], [True] * 3 + [False] * 2)
+        self.assertIs(is_row(NUMBERS, None, None), True)
+        for value in ODD + STRINGS:
+            self.assertIs(is_row(value, None, None), False, value)
+            self.assertIs(is_row([1, value], None, None), False, value)
+
+    def test_what_is_just_wanted(self):
+        wanted = ((1, 2), (), 3)
+        for value in (wanted, [(1, 2), [], 3], ([1, 2], (), 3)):
+            self.assertIs(is_just(value, wanted), True)
+        for value in ((True, 2), (1, 2, 3), [1], (2, 1), 1, (1.0, 2), (1, "2"), None):
+            self.assertIs(is_just((value, (), 3), wanted), False)
+        for value in ANYTHING:
+            self.assertIs(is_just(value, wanted), False)
 
 
 if __name__ == "__main__":

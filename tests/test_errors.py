@@ -3,8 +3,19 @@
 import inspect
 import unittest
 
+from tests.drawn import NEST, PATH, SPLIT, paths
+from tests.tools import ANYTHING
 from threelanes import errors
+from threelanes.bags import BagTree, bags_with, restricted, tree_of
+from threelanes.doors import door_walk, full_faces, met_face
 from threelanes.errors import LaneError
+from threelanes.layers import leg_colours
+from threelanes.makes import floor, ring
+from threelanes.peels import middle_bag
+from threelanes.pieces import cut, parted, within
+from threelanes.seats import Seats, are_near, seated
+from threelanes.webs import Web, renamed
+from threelanes.words import chosen_word, count_words, first_repeat
 
 FIELDS = {
     "BadNumber": ("part",),
@@ -25,6 +36,40 @@ FIELDS = {
     "BadText": ("line", "item"),
     "BadLine": ("line", "error"),
 }
+
+CALLS = (
+    (("BadNumber", "many"), ring, (2,)),
+    (("BadNumber", "begins"), cut, (NEST, (1, 3, 2), (1, 2, 3), (0, 1))),
+    (("BadNumber", "piece"), bags_with, (BagTree([[0]], [None]), 1)),
+    (("BadNumber", "weights"), middle_bag, (BagTree([[0]], [None]), [])),
+    (("BadWeb", "turns"), Web, ([[1]],)),
+    (("BadWeb", "web"), seated, (None,)),
+    (("BadFace", "outer"), parted, (NEST, (1, 2, 3))),
+    (("BadFace", "ring"), within, (NEST, (1, 2))),
+    (("BadFace", "door"), door_walk, (NEST, [1] * 7, (1, 2))),
+    (("BadColours", "colours"), full_faces, (NEST, [1] * 6)),
+    (("BadColours", "known"), leg_colours, (NEST, (1, 3, 2), [])),
+    (("BadTree", "bags"), BagTree, ([], [])),
+    (("BadTree", "above"), BagTree, ([[]], [0])),
+    (("BadTree", "pieces"), BagTree, ([[0], [], [0]], [None, 0, 1])),
+    (("BadTree", "tree"), restricted, (None, [])),
+    (("BadSeats", "one"), are_near, (Seats([], [[0]], [None]), None, None)),
+    (("BadWord", "word"), first_repeat, ([-1],)),
+    (("BadLot", "pieces"), restricted, (BagTree([[0]], [None]), [0, 0])),
+    (("BadLot", "order"), tree_of, ([], [])),
+    (("BadNames", "names"), renamed, (PATH, [1])),
+    (("BadPaper", "value"), are_near, (None, None, None)),
+    (("Misfit", "web"), seated, (SPLIT,)),
+    (("Misfit", "outer"), met_face, (NEST, [1] * 7, (1, 3, 2))),
+    (("Misfit", "ring"), cut, (NEST, (1, 3, 2), (1, 3, 2), (0, 1, 2))),
+    (("Misfit", "ties"), tree_of, ([0, 1, 2], [(0, 1), (0, 2)])),
+    (("Misfit", "lists"), chosen_word, ([[0]],)),
+    (("TooMany", "places", 1000), floor, (1000, 1000)),
+    (("TooMany", "places", 150), seated, (Web(paths(151)),)),
+    (("TooMany", "lists", 8), count_words, ([[]] * 9,)),
+    (("BadText", 0, 2), Web.read, ("2 / -",)),
+    (("BadText", 0, 4), BagTree.read, ("- : 0 2 1",)),
+)
 
 
 class Errors(unittest.TestCase):
@@ -47,6 +92,21 @@ class Errors(unittest.TestCase):
             for error in (by_place, by_name):
                 for field, value in zip(fields, own):
                     self.assertIs(getattr(error, field), value, name)
+
+    def test_fields_of_any_kind(self):
+        for name, fields in FIELDS.items():
+            made = getattr(errors, name)
+            for value in ANYTHING:
+                for error in (made(*[value] * len(fields)), made(**{field: value for field in fields})):
+                    self.assertTrue(all(getattr(error, field) is value for field in fields), name)
+
+    def test_what_calls_raise_is_caught_as_lane_error(self):
+        for wanted, call, values in CALLS:
+            with self.assertRaises(LaneError) as caught:
+                call(*values)
+            error = caught.exception
+            fields = FIELDS[type(error).__name__]
+            self.assertEqual((type(error).__name__, *[getattr(error, field) for field in fields]), wanted)
 
     def test_parameters_are_the_fields(self):
         for name, fields in FIELDS.items():

@@ -7,7 +7,10 @@ import unittest
 from tests.tools import shown
 from threelanes.errors import LaneError
 
-SECTIONS = ("checks", "papers", "webs", "faces", "check_webs", "fills", "makes", "layers")
+SECTIONS = (
+    "checks", "papers", "webs", "faces", "check_webs", "fills", "makes", "layers", "doors", "check_doors", "pieces",
+    "check_pieces", "seats", "check_seats", "bags", "peels", "words",
+)
 FOLDER = pathlib.Path(__file__).parent / "examples"
 
 
@@ -34,13 +37,19 @@ def answer(asked, names):
         return f"raises {shown(error)}"
 
 
+def names_of(section):
+    """The names that a module gives to whoever imports them."""
+    module = importlib.import_module(f"threelanes.{section}")
+    return {name: worth for name, worth in vars(module).items() if not name.startswith("_")}
+
+
 class Examples(unittest.TestCase):
     def test_examples(self):
         names = {}
+        # The examples leave imports out, also those from sections further on.
         for section in SECTIONS:
-            module = importlib.import_module(f"threelanes.{section}")
-            own = {name: worth for name, worth in vars(module).items() if not name.startswith("_")}
-            names.update(own)
+            names.update(names_of(section))
+        for section in SECTIONS:
             examples = examples_in((FOLDER / f"{section}.txt").read_text(encoding="utf-8"))
             self.assertTrue(examples)
             for asked, printed in examples:

@@ -2,23 +2,14 @@
 
 import unittest
 
-from tests.drawn import FOUR, KNOT, NEST, PATH, SPLIT, THREE, all_tied, triangulated
+from tests.drawn import HANDLE, KNOT, LONE, NEST, PATH, SPLIT, TAIL, THREE, all_tied, triangulated
+from tests.slow import slow_layers
 from tests.tools import ANYTHING, LISTS, ODD, STRINGS, LaneCase
 from threelanes.faces import faces_of
 from threelanes.fills import filled
 from threelanes.layers import layers_of, leg_colours, leg_of, uppers_of
 from threelanes.makes import floor, ring
 from threelanes.webs import Web
-
-
-def slow_layers(web, outer):
-    """The layers, made less until each is at most one more than its neighbours."""
-    layers = [0 if place in outer else web.many for place in range(1, web.many + 1)]
-    for _ in range(web.many):
-        for one, other in web.ties:
-            layers[one - 1] = min(layers[one - 1], layers[other - 1] + 1)
-            layers[other - 1] = min(layers[other - 1], layers[one - 1] + 1)
-    return layers
 
 
 class Layers(LaneCase):
@@ -133,10 +124,7 @@ class Refused(LaneCase):
             self.raises("BadColours('known')", leg_colours, NEST, (1, 3, 2), right + [(value, value)])
 
     def test_a_web_that_is_not_filled_comes_last(self):
-        tail = Web([[2, 3], [3, 1], [1, 4, 2], [3]])
-        lone = Web([[2, 3], [3, 1], [1, 2], []])
-        handle = Web([[(place + step - 1) % 7 + 1 for step in (1, 3, 2, 6, 4, 5)] for place in range(1, 8)])
-        for web, outer in ((tail, (1, 2, 3)), (lone, (1, 3, 2)), (lone, (3, 1, 2)), (handle, faces_of(handle)[0])):
+        for web, outer in ((TAIL, (1, 2, 3)), (LONE, (1, 3, 2)), (LONE, (3, 1, 2)), (HANDLE, faces_of(HANDLE)[0])):
             known = [(place, 1) for place in outer]
             for call, right in ((layers_of, ()), (uppers_of, ()), (leg_of, (1,)), (leg_colours, (known,))):
                 self.raises("Misfit('web')", call, web, outer, *right)

@@ -3,7 +3,7 @@
 import unittest
 
 from tests.tools import LISTS, NUMBERS, ODD, LaneCase
-from threelanes.texts import items_of, number_in
+from threelanes.texts import items_of, number_in, number_text
 
 
 class Texts(LaneCase):
@@ -27,6 +27,11 @@ class Texts(LaneCase):
         wanted = {"0": None, "1": 1, "9": 9, "10": None, "-1": None}
         self.assertEqual({item: number_in(item, 1, 9) for item in wanted}, wanted)
         self.assertEqual([number_in("-7", None, 0), number_in("-7", -6, None), number_in("7", 7, None)], [-7, None, 7])
+
+    def test_integers_that_are_written(self):
+        for number in (0, 1, 9, 10, 10**59, 10**60 - 1, 10**60, 10**60 + 1, 10**120 - 1, 10**120, 7 * 10**130 + 5, 3**8000):
+            self.assertEqual(number_text(number), str(number))
+        self.assertEqual(number_text(10**9000 + 8), "1" + "0" * 8999 + "8")
 
 
 if __name__ == "__main__":

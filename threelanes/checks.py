@@ -18,8 +18,25 @@ def is_list(value):
     return isinstance(value, (list, tuple))
 
 
+def is_row(value, least, most):
+    """Whether the value is a list, perhaps of none, of integers from least to most."""
+    return is_list(value) and all([is_within(item, least, most) for item in value])
+
+
+def are_unlike(value, least):
+    """Whether the value is a list, perhaps of none, of unlike integers from least on."""
+    return is_row(value, least, None) and len(set(value)) == len(value)
+
+
 def is_lot(value):
     """Whether the value is a list, perhaps of none, of unlike integers from 1 on."""
-    if not is_list(value) or not all([is_within(item, 1, None) for item in value]):
+    return are_unlike(value, 1)
+
+
+def is_just(value, wanted):
+    """Whether the value is what is wanted, made of lists and integers: nothing else stands for a number."""
+    if not is_list(wanted):
+        return is_integer(value) and value == wanted
+    if not is_list(value) or len(value) != len(wanted):
         return False
-    return len(set(value)) == len(value)
+    return all([is_just(item, own) for item, own in zip(value, wanted)])

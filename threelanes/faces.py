@@ -35,7 +35,7 @@ def faces_of(web):
     want_web(web)
     if web.many == 1:
         return ((),)
-    left = _places_behind(web)
+    left = places_behind(web)
     faces = []
     for at, turn in enumerate(web.turns):
         for other in sorted(turn):
@@ -50,10 +50,7 @@ def face_at(web, one, other):
     # What is no place is refused by tied, with the names that are wanted here.
     if not web.tied(one, other):
         raise Misfit("other")
-    face = _face_from(web, one, other)
-    sides = sides_of(face)
-    at = sides.index(min(sides))
-    return face[at:] + face[:at]
+    return from_least_side(_face_from(web, one, other))
 
 
 def judged_flat(web):
@@ -92,6 +89,13 @@ def sides_of(places):
     return list(zip(places, places[1:] + places[:1]))
 
 
+def from_least_side(face):
+    """The same face, told from its least side on."""
+    sides = sides_of(face)
+    at = sides.index(min(sides))
+    return face[at:] + face[:at]
+
+
 def is_face(web, value):
     """Whether any value is a face of a web, told from any of its corners on."""
     if not is_list(value):
@@ -103,15 +107,15 @@ def is_face(web, value):
     return tuple(value) == _face_from(web, value[0], value[1])
 
 
+def places_behind(web):
+    """For each place a dict: behind each place of its turn, the next one."""
+    return [dict(zip(turn, turn[1:] + turn[:1])) for turn in web.turns]
+
+
 def want_three_corners(web, value, part):
     """Raises BadFace(part) for what is no face of three places of a web."""
     if not is_face(web, value) or len(value) != 3:
         raise BadFace(part)
-
-
-def _places_behind(web):
-    """For each place a dict: behind each place of its turn, the next one."""
-    return [dict(zip(turn, turn[1:] + turn[:1])) for turn in web.turns]
 
 
 def _taken_round(left, one, other):
@@ -126,4 +130,4 @@ def _taken_round(left, one, other):
 
 def _face_from(web, one, other):
     """The face that has the side from one to other, from this side on; () for no side."""
-    return _taken_round(_places_behind(web), one, other)
+    return _taken_round(places_behind(web), one, other)

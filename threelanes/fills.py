@@ -15,11 +15,9 @@ def is_filled(web):
 
 def filled(web):
     """A flat web with new places in each face that has more than three corners."""
-    want_web(web)
-    if web.many < 3 or not is_flat(web):
+    want_flat(web)
+    if web.many < 3:
         raise Misfit("web")
-    if web.many > MOST_TO_FILL:
-        raise TooMany("places", MOST_TO_FILL)
     new_turns = []
     beside = {}
     for face in faces_of(web):
@@ -31,6 +29,15 @@ def filled(web):
                 beside[side] = (first + at, first + (at + 1) % len(sides))
     turns = [_widened(turn, at + 1, beside) for at, turn in enumerate(web.turns)]
     return Web(turns + new_turns)
+
+
+def want_flat(web):
+    """Raises errors for what is no web, no flat one, or one of too many places to be filled."""
+    want_web(web)
+    if not is_flat(web):
+        raise Misfit("web")
+    if web.many > MOST_TO_FILL:
+        raise TooMany("places", MOST_TO_FILL)
 
 
 def want_filled(web):

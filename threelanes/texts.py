@@ -4,6 +4,8 @@ from threelanes.checks import is_within
 from threelanes.errors import BadText
 
 MOST_DIGITS = 140
+PART_DIGITS = 60
+PART = 10**60
 
 
 def items_of(text):
@@ -23,3 +25,13 @@ def number_in(item, least, most):
         return None
     number = int(item)
     return number if is_within(number, least, most) else None
+
+
+def number_text(number):
+    """The digits of an integer from 0 on."""
+    # Python does not write an integer of some thousands of digits at once.
+    digits = ""
+    while number >= PART:
+        number, rest = divmod(number, PART)
+        digits = str(rest).zfill(PART_DIGITS) + digits
+    return str(number) + digits

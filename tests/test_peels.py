@@ -6,7 +6,7 @@ import unittest
 from tests.slow import bent
 from tests.test_bags import random_tree, slow_ties
 from tests.tools import ANYTHING, LaneCase
-from threelanes.bags import BagTree, path_tree, tree_of
+from threelanes.bags import BagTree, path_tree, ties_in, tree_of
 from threelanes.papers import Denial, Paper
 from threelanes.peels import Middle, Peeled, middle_bag, peeled, shows_middle, shows_peeled
 
@@ -119,6 +119,19 @@ class Orders(LaneCase):
         self.assertIs(self.quick(shows_peeled, line, Peeled([*range(1, 1000), 0]), seconds=2), False)
         deep = BagTree([[at, at + 1, at + 2, at + 3] for at in range(2000)], [None] + list(range(1999)))
         self.assertIs(self.quick(shows_peeled, deep, self.quick(peeled, deep, seconds=2), seconds=2), True)
+
+
+class Great(LaneCase):
+    def test_great_bags(self):
+        many = 700
+        order = list(range(many))
+        ties = [(one, other) for one in order for other in range(one)]
+        tree = self.quick(tree_of, order, ties, seconds=4)
+        self.assertEqual(len(self.quick(ties_in, tree, seconds=4)), many * (many - 1) // 2)
+        self.assertIs(self.quick(shows_peeled, tree, Peeled(order[::-1]), seconds=4), True)
+        told = self.quick(middle_bag, tree, [1] * many, seconds=2)
+        self.assertIs(self.quick(shows_middle, tree, [1] * many, told, seconds=2), True)
+        self.assertIs(self.quick(shows_middle, tree, [1] * many, Middle(many - 1), seconds=2), False)
 
 
 class Middles(LaneCase):

@@ -47,7 +47,7 @@ def want_tree(tree):
 def ties_in(tree):
     """The tied pairs of pieces, the lesser one first, ascending."""
     want_tree(tree)
-    return tuple(sorted([pair for pair in pairs_in(tree.bags) if pair[0] != pair[1]]))
+    return tuple(sorted([pair for pair in pairs_in(tree.bags, tree.above) if pair[0] != pair[1]]))
 
 
 def bags_with(tree, piece):

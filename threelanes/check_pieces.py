@@ -17,7 +17,8 @@ def shows_parted(web, outer, value):
         return False
     if not _are_pieces(web, value.pieces, value.bags):
         return False
-    return _are_in_bags(web, value.pieces, value.bags) and _are_thin(value.pieces, layers_of(web, outer))
+    pairs = pairs_in(value.bags, value.above)
+    return _are_paired(web, value.pieces, pairs) and _are_thin(value.pieces, layers_of(web, outer))
 
 
 def _are_pieces(web, value, bags):
@@ -28,9 +29,8 @@ def _are_pieces(web, value, bags):
     return max(value) == many - 1 and all([piece < many for bag in bags for piece in bag])
 
 
-def _are_in_bags(web, pieces, bags):
-    """Whether the pieces of any two tied places stand in one bag."""
-    pairs = pairs_in(bags)
+def _are_paired(web, pieces, pairs):
+    """Whether the pieces of any two tied places are one of the pairs."""
     return all([tuple(sorted([pieces[one - 1], pieces[other - 1]])) in pairs for one, other in web.ties])
 
 

@@ -13,7 +13,7 @@ def shows_seats(web, value):
         return False
     if not _are_seats(web, value.seats):
         return False
-    pairs = pairs_in(value.bags)
+    pairs = pairs_in(value.bags, value.above)
     if not all([(seat[0], seat[0]) in pairs for seat in value.seats]):
         return False
     return all([may_be_tied(pairs, value.seats[one - 1], value.seats[other - 1]) for one, other in web.ties])

@@ -37,8 +37,9 @@ def middle_bag(tree, weights):
     _want_weights(tree, weights)
     order = from_top(tree.above)
     loads = _loads_of(tree, weights, order)
-    # Of bags in which, with all beneath, more than half begins, each one lies beneath the one ahead.
-    heavy = [at for at in order if 2 * loads[at] > sum(weights)]
+    whole = sum(weights)
+    # No two of these are beside one another, as together they would have more than all: so the last is the deepest.
+    heavy = [at for at in order if 2 * loads[at] > whole]
     return Middle(heavy[-1] if heavy else order[0])
 
 
@@ -49,7 +50,7 @@ def shows_peeled(tree, value):
         return False
     if sorted(value.order) != list(tree.pieces):
         return False
-    pairs = pairs_in(tree.bags)
+    pairs = pairs_in(tree.bags, tree.above)
     behind = tied_behind(value.order, pairs)
     return all([len(row) <= tree.width for row in behind]) and are_two_by_two(behind, pairs)
 
@@ -60,9 +61,8 @@ def shows_middle(tree, weights, value):
     _want_weights(tree, weights)
     if not isinstance(value, Middle) or not is_within(value.at, 0, len(tree.bags) - 1):
         return False
-    loads = dict(zip(tree.pieces, weights))
-    lots = _joined_without(tree, tree.bags[value.at])
-    return all([2 * sum([loads[piece] for piece in lot]) <= sum(weights) for lot in lots])
+    whole = sum(weights)
+    return all([2 * load <= whole for load in _loads_without(tree, weights, tree.bags[value.at])])
 
 
 def _want_weights(tree, weights):
@@ -82,30 +82,21 @@ def _loads_of(tree, weights, order):
     return loads
 
 
-def _joined_without(tree, gone):
-    """The lots of pieces that are joined by ties without some pieces."""
-    holders = {piece: [] for piece in tree.pieces}
-    for at, bag in enumerate(tree.bags):
-        for piece in bag:
-            holders[piece].append(at)
-    found = {piece: True for piece in gone}
-    lots = []
-    for piece in tree.pieces:
-        if piece not in found:
-            lots.append(_lot_from(tree, piece, holders, found))
-    return lots
-
-
-def _lot_from(tree, piece, holders, found):
-    """The pieces that are joined with a piece and were not found yet; now they are."""
-    found[piece] = True
-    lot = [piece]
-    waiting = [piece]
-    while waiting:
-        here = waiting.pop()
-        for at in holders[here]:
-            new = [other for other in tree.bags[at] if other not in found]
-            found.update({other: True for other in new})
-            lot.extend(new)
-            waiting.extend(new)
-    return lot
+def _loads_without(tree, weights, gone):
+    """The weights of the lots of pieces that are joined by ties without some pieces."""
+    worth = dict(zip(tree.pieces, weights))
+    out = {piece: True for piece in gone}
+    lots = {}
+    loads = []
+    for at in from_top(tree.above):
+        left = [piece for piece in tree.bags[at] if piece not in out]
+        known = [lots[piece] for piece in left if piece in lots]
+        # Those that are known stand in the bag above, too: so they are of one lot.
+        lot = known[0] if known else len(loads)
+        if not known:
+            loads.append(0)
+        for piece in left:
+            if piece not in lots:
+                lots[piece] = lot
+                loads[lot] += worth[piece]
+    return loads

@@ -38,7 +38,7 @@ def are_near(value, one, other):
         raise BadPaper("value")
     want_seat(one, "one")
     want_seat(other, "other")
-    return tuple(one) != tuple(other) and may_be_tied(pairs_in(value.bags), one, other)
+    return tuple(one) != tuple(other) and may_be_tied(pairs_in(value.bags, value.above), one, other)
 
 
 def is_seat(value):

@@ -56,9 +56,12 @@ def fresh_in(bags, above):
     ]
 
 
-def pairs_in(bags):
+def pairs_in(bags, above):
     """A dict of the pairs of pieces that stand in one bag, the lesser one first, and of each piece with itself."""
-    return {(one, bag[k]): True for bag in bags for at, one in enumerate(bag) for k in range(at, len(bag))}
+    # Where the bag above has both pieces of a pair, it tells them: so one of them is fresh in the uppermost bag.
+    fresh = fresh_in(bags, above)
+    pairs = [(one, other) for bag, row in zip(bags, fresh) for one in row for other in bag]
+    return {(min(one, other), max(one, other)): True for one, other in pairs}
 
 
 def tied_behind(order, pairs):

@@ -7,9 +7,13 @@ from tests.drawn import NEST, PATH, SPLIT, paths
 from tests.tools import ANYTHING
 from threelanes import errors
 from threelanes.bags import BagTree, bags_with, restricted, tree_of
+from threelanes.check_colourings import judged_walks, judged_ways
+from threelanes.colourings import map_colours, tree_colours
 from threelanes.doors import door_walk, full_faces, met_face
 from threelanes.errors import LaneError
+from threelanes.labels import are_tied, label_text, labels_of, told_label
 from threelanes.layers import leg_colours
+from threelanes.lines import is_line_walk, judged_line, line_colours
 from threelanes.makes import floor, ring
 from threelanes.peels import middle_bag
 from threelanes.pieces import cut, parted, within
@@ -67,6 +71,23 @@ CALLS = (
     (("TooMany", "places", 1000), floor, (1000, 1000)),
     (("TooMany", "places", 150), seated, (Web(paths(151)),)),
     (("TooMany", "lists", 8), count_words, ([[]] * 9,)),
+    (("BadNumber", "many"), line_colours, (2001,)),
+    (("BadNumber", "many"), is_line_walk, ([0], -1)),
+    (("BadColours", "colours"), judged_line, ([-1],)),
+    (("TooMany", "colours", 400), judged_line, ([0] * 401,)),
+    (("BadTree", "tree"), tree_colours, (None,)),
+    (("Misfit", "web"), map_colours, (SPLIT,)),
+    (("BadColours", "colours"), judged_walks, (PATH, None)),
+    (("Misfit", "colours"), judged_walks, (PATH, [0, 1])),
+    (("TooMany", "places", 40), judged_walks, (Web(paths(41)), [0] * 41)),
+    (("BadNumber", "most"), judged_ways, (PATH, [0, 1], 5)),
+    (("TooMany", "places", 24), judged_ways, (Web(paths(25)), [0] * 25, 4)),
+    (("BadLabel", "label"), told_label, ("0 0 0",)),
+    (("BadSeats", "seat"), label_text, ((0, 1000, 0), [])),
+    (("BadLabel", "near"), label_text, ((0, 0, 0), [])),
+    (("BadLabel", "one"), are_tied, ("", "")),
+    (("BadLabel", "other"), are_tied, ("0 0 0 / 0 000000000", "")),
+    (("TooMany", "places", 150), labels_of, (Web(paths(151)),)),
     (("BadText", 0, 2), Web.read, ("2 / -",)),
     (("BadText", 0, 4), BagTree.read, ("- : 0 2 1",)),
 )

@@ -9,7 +9,7 @@ from threelanes.errors import LaneError
 
 SECTIONS = (
     "checks", "papers", "webs", "faces", "check_webs", "fills", "makes", "layers", "doors", "check_doors", "pieces",
-    "check_pieces", "seats", "check_seats", "bags", "peels", "words",
+    "check_pieces", "seats", "check_seats", "bags", "peels", "words", "lines", "colourings", "check_colourings", "labels",
 )
 FOLDER = pathlib.Path(__file__).parent / "examples"
 
@@ -46,10 +46,10 @@ def names_of(section):
 class Examples(unittest.TestCase):
     def test_examples(self):
         names = {}
-        # The examples leave imports out, also those from sections further on.
         for section in SECTIONS:
-            names.update(names_of(section))
-        for section in SECTIONS:
+            # The examples leave imports out, also those from sections further on, and of names that were used otherwise.
+            for other in SECTIONS:
+                names.update(names_of(other))
             examples = examples_in((FOLDER / f"{section}.txt").read_text(encoding="utf-8"))
             self.assertTrue(examples)
             for asked, printed in examples:

@@ -101,6 +101,32 @@ INTERFACE = {
         "count_words": "lists",
         "chosen_word": "lists",
     },
+    "lines": {
+        "line_colours": "many",
+        "is_line_walk": "value many",
+        "Calm": "",
+        "Stray": "walk",
+        "judged_line": "colours",
+        "shows_line": "colours value",
+    },
+    "colourings": {"tree_colours": "tree", "map_colours": "web"},
+    "check_colourings": {
+        "Sound": "",
+        "Echo": "walk",
+        "judged_walks": "web colours",
+        "shows_walks": "web colours value",
+        "Free": "most",
+        "Repeat": "way",
+        "judged_ways": "web colours most",
+        "shows_ways": "web colours most value",
+    },
+    "labels": {
+        "is_label": "value",
+        "told_label": "label",
+        "label_text": "seat near",
+        "are_tied": "one other",
+        "labels_of": "web",
+    },
 }
 
 

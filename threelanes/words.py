@@ -41,6 +41,12 @@ def first_repeat(word):
     return min([repeat for repeat in repeats if repeat[0] is not None], default=None)
 
 
+def is_repeat(row):
+    """Whether a row is some items, one at least, two times in succession."""
+    half, rest = divmod(len(row), 2)
+    return half > 0 and rest == 0 and row[:half] == row[half:]
+
+
 def count_words(lists):
     """How many words out of the lists have no repeat."""
     _want_lists(lists)
@@ -134,5 +140,4 @@ def _words_of(blocks, shared):
 
 def _ends_with_repeat(word):
     """Whether the last signs of a word are those ahead of them."""
-    many = len(word)
-    return any([word[many - half :] == word[many - 2 * half : many - half] for half in range(1, many // 2 + 1)])
+    return any([is_repeat(word[len(word) - 2 * half :]) for half in range(1, len(word) // 2 + 1)])

@@ -9,13 +9,16 @@ from threelanes import errors
 from threelanes.bags import BagTree, bags_with, restricted, tree_of
 from threelanes.check_colourings import judged_walks, judged_ways
 from threelanes.colourings import map_colours, tree_colours
+from threelanes.desks import Desk
 from threelanes.doors import door_walk, full_faces, met_face
 from threelanes.errors import LaneError
 from threelanes.labels import are_tied, label_text, labels_of, told_label
 from threelanes.layers import leg_colours
 from threelanes.lines import is_line_walk, judged_line, line_colours
+from threelanes.lots import best_lot, parting_of, rests_without, shares_of
 from threelanes.makes import floor, ring
 from threelanes.peels import middle_bag
+from threelanes.pictures import picture_of, seats_in
 from threelanes.pieces import cut, parted, within
 from threelanes.seats import Seats, are_near, seated
 from threelanes.webs import Web, renamed
@@ -88,6 +91,19 @@ CALLS = (
     (("BadLabel", "one"), are_tied, ("", "")),
     (("BadLabel", "other"), are_tied, ("0 0 0 / 0 000000000", "")),
     (("TooMany", "places", 150), labels_of, (Web(paths(151)),)),
+    (("TooMany", "places", 24), best_lot, (Web(paths(25)),)),
+    (("BadNumber", "k"), shares_of, (PATH, 4)),
+    (("Misfit", "web"), parting_of, (SPLIT,)),
+    (("BadLot", "lot"), rests_without, (PATH, [4])),
+    (("BadPaper", "value"), picture_of, (Seats([[0, 0, 3]], [], []),)),
+    (("TooMany", "layers", 1000), picture_of, (Seats([[0, 1000, 0]], [], []),)),
+    (("BadSeats", "picture"), seats_in, (["0 :"],)),
+    (("BadNames", "lines"), Desk.read, ("",)),
+    (("NoName", "a"), Desk().tell, ("drop a",)),
+    (("NoName", 4), Desk.read(["ring a 3"]).tell, ("seat a 4",)),
+    (("Twice", "a"), Desk.read(["ring a 3"]).tell, ("ring a 4",)),
+    (("Misfit", "way"), Desk.read(["ring a 3"]).tell, ("sees a 1 1",)),
+    (("BadText", 0, 3), Desk().tell, ("ring a 3 4",)),
     (("BadText", 0, 2), Web.read, ("2 / -",)),
     (("BadText", 0, 4), BagTree.read, ("- : 0 2 1",)),
 )

@@ -10,6 +10,7 @@ from threelanes.errors import LaneError
 SECTIONS = (
     "checks", "papers", "webs", "faces", "check_webs", "fills", "makes", "layers", "doors", "check_doors", "pieces",
     "check_pieces", "seats", "check_seats", "bags", "peels", "words", "lines", "colourings", "check_colourings", "labels",
+    "check_labels", "lots", "check_lots", "pictures", "desks",
 )
 FOLDER = pathlib.Path(__file__).parent / "examples"
 

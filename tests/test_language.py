@@ -7,6 +7,8 @@ import inspect
 import pathlib
 import unittest
 
+from threelanes import errors
+
 FOLDER = pathlib.Path(__file__).parent.parent / "threelanes"
 LIBRARY = ("heapq", "math", "itertools", "collections")
 BUILTINS = set(
@@ -19,7 +21,7 @@ METHODS = set(
     "setdefault split splitlines startswith strip update upper values zfill bit_length isascii removeprefix "
     "removesuffix add discard".split()
 )
-FORBIDDEN = (ast.GeneratorExp, ast.Global, ast.AsyncFunctionDef, ast.Await, ast.Import, ast.Div, ast.Try, ast.Set)
+FORBIDDEN = (ast.GeneratorExp, ast.Global, ast.AsyncFunctionDef, ast.Await, ast.Import, ast.Div, ast.Set)
 
 INTERFACE = {
     "checks": {"is_integer": "value", "is_within": "value least most", "is_lot": "value"},
@@ -127,6 +129,25 @@ INTERFACE = {
         "are_tied": "one other",
         "labels_of": "web",
     },
+    "check_labels": {"shows_labels": "web value"},
+    "lots": {
+        "Best": "lot",
+        "Shares": "lots",
+        "Parting": "lot",
+        "best_lot": "web",
+        "shares_of": "web k",
+        "parting_of": "web",
+        "rests_without": "web lot",
+    },
+    "check_lots": {"shows_best": "web value", "shows_shares": "web k value", "shows_parting": "web value"},
+    "pictures": {"picture_of": "value", "seats_in": "picture"},
+    "desks": {
+        "Desk": "",
+        "Desk.tell": "self line",
+        "Desk.names": "self",
+        "Desk.lines": "self",
+        "Desk.read": "lines",
+    },
 }
 
 
@@ -182,6 +203,13 @@ class Files(unittest.TestCase):
         for where, node in self.each_node(ast.Constant):
             self.assertNotIsInstance(node.value, (float, complex), where)
             self.assertNotIn("%", str(node.value), where)
+
+    def test_handlers_catch_errors_of_the_package_alone(self):
+        for where, node in self.each_node(ast.Try):
+            self.assertEqual(node.finalbody, [], where)
+            for handler in node.handlers:
+                self.assertIsInstance(handler.type, ast.Name, where)
+                self.assertIn(handler.type.id, vars(errors), where)
 
     def test_builtins(self):
         for where, node in self.each_node(ast.Name):

@@ -2,8 +2,8 @@
 
 from threelanes.checks import is_list, is_lot, is_within
 from threelanes.errors import BadColours
-from threelanes.faces import want_three_corners
-from threelanes.fills import want_filled
+from threelanes.faces import faces_of, want_three_corners
+from threelanes.fills import filled, want_filled, want_flat
 from threelanes.wants import want_number
 from threelanes.webs import want_web
 
@@ -50,6 +50,15 @@ def leg_colours(web, outer, known):
     uppers = uppers_of(web, outer)
     colours = {place: colour for place, colour in known}
     return tuple([_first_colour(place, uppers, colours) for place in range(1, web.many + 1)])
+
+
+def map_layers(web):
+    """The layers of all places of a flat web, from the first face of the filled web on."""
+    want_flat(web)
+    if web.many < 3:
+        return (0,) * web.many
+    full = filled(web)
+    return layers_of(full, faces_of(full)[0])[: web.many]
 
 
 def want_outer(web, outer):

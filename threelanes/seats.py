@@ -1,6 +1,6 @@
 """Seats of flat webs: a piece, a layer and a lane for each place."""
 
-from threelanes.checks import is_row
+from threelanes.checks import is_list, is_row
 from threelanes.errors import BadPaper, BadSeats
 from threelanes.faces import faces_of
 from threelanes.fills import filled, want_flat
@@ -44,6 +44,13 @@ def are_near(value, one, other):
 def is_seat(value):
     """Whether any value is a seat."""
     return is_row(value, 0, None) and len(value) == 3 and value[2] < LANES
+
+
+def are_unlike_seats(value):
+    """Whether any value is a list, perhaps of none, of unlike seats."""
+    if not is_list(value) or not all([is_seat(seat) for seat in value]):
+        return False
+    return len(set([tuple(seat) for seat in value])) == len(value)
 
 
 def want_seat(value, part):

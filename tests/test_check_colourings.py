@@ -225,6 +225,28 @@ class Ways(LaneCase):
         self.check(star, [0] + [1] * 23, 4, True)
         self.check(star, [0] + [1] * 22 + [0], 4, False)
 
+    def test_dead_ends_that_are_met_first(self):
+        # The only way that sees a repeat is 1 to 6, or 6 to 1; from each of its halves' ends a leaf stands first.
+        web = Web([[7, 2], [1, 3], [10, 2, 4], [8, 3, 5], [4, 6], [9, 5], [1], [4], [6], [3]])
+        colours = [0, 1, 2, 0, 1, 2, 1, 1, 1, 1]
+        for most in (1, 2, 3, 4):
+            self.assertIs(has_repeat_way(web.turns, colours, most), most > 2)
+            self.check(web, colours, most, most < 3)
+
+    def test_trees_made_at_random(self):
+        rng = self.seeded(196)
+        counts = {True: 0, False: 0}
+        for many in (6, 8, 10, 12, 14):
+            for shades in (3, 4, 5):
+                for _ in range(12):
+                    web = Web(grown(rng, many, rng.randrange(3))[0])
+                    colours = [rng.randrange(shades) for _ in range(many)]
+                    for most in (2, 3, 4):
+                        wanted = not has_repeat_way(web.turns, colours, most)
+                        counts[wanted] += 1
+                        self.check(web, colours, most, wanted)
+        self.assertGreater(min(counts.values()), 20)
+
     def test_colours_alike_unlike_and_few(self):
         for web in (LINE, floor(4, 6), wheel(23), NEST, KNOT, Web(all_tied(24)), LONE, SPLIT):
             for most in (1, 2, 3, 4):

@@ -8,7 +8,7 @@ from tests.slow_lots import are_slow_shares, greatest_size, is_slow_lot, is_slow
 from tests.slow_lots import slow_map_layers
 from tests.tools import ANYTHING, LaneCase, as_lists, random_turns
 from threelanes.layers import map_layers
-from threelanes.lots import Best, Parting, Shares, best_lot, parting_of, rests_without, shares_of
+from threelanes.lots import Best, Parting, Shares, best_lot, most_to_part, parting_of, rests_without, shares_of
 from threelanes.makes import floor, ring, wheel
 from threelanes.papers import Paper
 from threelanes.untied import greatest_untied
@@ -181,6 +181,12 @@ class PartingOf(LaneCase):
         for web in FLAT:
             self.check(web)
         self.assertEqual(parting_of(web=Web([[]])), Parting([1]))
+
+    def test_how_many_places_at_most(self):
+        for web in (*FLAT, Web(nested(150)), Web(nested(145)), Web(nested(150, 0)), Web(nested(40)), floor(15, 10), wheel(149)):
+            self.assertEqual(most_to_part(web), most_places(web))
+        self.assertEqual([most_to_part(web) for web in (Web([[]]), floor(2, 2), wheel(149))], [12, 24, 24])
+        self.assertEqual([most_to_part(Web(nested(many))) for many in (143, 144, 145, 150)], [300, 300, 326, 326])
 
     def test_lines_stars_floors_and_wheels(self):
         for many in (4, 13, 40, 60, 150):
